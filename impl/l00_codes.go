@@ -64,7 +64,7 @@ func NameOK(t string) bool {
 }
 
 func CodeWord(code int) string {
-	if code < 0 || code >= len(codeWords) {
+	if !codeOK(code) {
 		return ""
 	}
 	return codeWords[code]
@@ -78,6 +78,8 @@ func CodeOf(word string) int {
 	}
 	return -1
 }
+
+func codeOK(code int) bool { return code >= 0 && code < len(codeWords) }
 
 func isLetter(b byte) bool {
 	return b >= 'a' && b <= 'z' || b >= 'A' && b <= 'Z' || b == '_'

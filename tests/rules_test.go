@@ -156,3 +156,41 @@ func TestNothingPanicsAndAlikeAnswersAlike(t *testing.T) {
 		}
 	}
 }
+
+// sayThread calls all that is about threads with what it is given, and tells all answers.
+func sayThread(x impl.Thread, op, arg, until int) string {
+	word, code := impl.OpWord(op)
+	s := fmt.Sprintln(impl.ThreadOK(x), word, code, impl.OpOf(word), impl.IsWaiting(op))
+	n, code := impl.NewThread(arg)
+	s += fmt.Sprintln(n, code)
+	b, code := impl.BeginCall(x, op, arg, until)
+	s += fmt.Sprintln(b, code)
+	c, code := impl.CancelThread(x)
+	return s + fmt.Sprintln(c, code)
+}
+
+func TestThreadCallsDoNotHangOnEarlierOnes(t *testing.T) {
+	numbers := []int{math.MinInt, -1, 0, 1, 3, 6, 7, 999, 1000, 1000000, 1000001, math.MaxInt}
+	threads := append(idleThreads(), busyThreads()...)
+	for _, x := range badThreads() {
+		threads = append(threads, x)
+	}
+	first := map[string]string{}
+	for turn := range 2 {
+		for i, x := range threads {
+			was := x
+			for j, op := range numbers {
+				arg, until := numbers[(i+j)%len(numbers)], numbers[(i+3*j)%len(numbers)]
+				key := fmt.Sprint(x, op, arg, until)
+				said := sayThread(x, op, arg, until)
+				if turn == 0 {
+					first[key] = said
+				}
+				if said != first[key] {
+					t.Errorf("alike arguments, other answers: %s: %s and %s", key, said, first[key])
+				}
+			}
+			wantThread(t, "what was handed in", x, was)
+		}
+	}
+}
