@@ -166,12 +166,25 @@ func sayThread(x impl.Thread, op, arg, until int) string {
 	b, code := impl.BeginCall(x, op, arg, until)
 	s += fmt.Sprintln(b, code)
 	c, code := impl.CancelThread(x)
-	return s + fmt.Sprintln(c, code)
+	return s + fmt.Sprintln(c, code) + sayPark(x, until)
+}
+
+// sayPark calls all that is about parking with what it is given, and tells all answers.
+func sayPark(x impl.Thread, now int) string {
+	s := ""
+	for _, call := range parkCalls {
+		y, code := call.do(x)
+		s += fmt.Sprintln(call.name, y, code)
+	}
+	over, code := impl.GivesUp(x, now)
+	s += fmt.Sprintln(over, code)
+	y, code := impl.ExpireThread(x, now)
+	return s + fmt.Sprintln(y, code)
 }
 
 func TestThreadCallsDoNotHangOnEarlierOnes(t *testing.T) {
 	numbers := []int{math.MinInt, -1, 0, 1, 3, 6, 7, 999, 1000, 1000000, 1000001, math.MaxInt}
-	threads := append(idleThreads(), busyThreads()...)
+	threads := slices.Concat(idleThreads(), busyThreads(), runningThreads(), parkedThreads())
 	for _, x := range badThreads() {
 		threads = append(threads, x)
 	}
