@@ -341,23 +341,55 @@ func TestQueueLoadsWhatIsNotThere(t *testing.T) {
 	})
 }
 
-// A change of a cell that is not there is none, also from 0: nothing is written, and the step takes its other way.
-func TestQueueWritesWhatIsNotThere(t *testing.T) {
+// A cell that is not there is 0, cell 0 too: a change of it from 0 is done, though nothing is written.
+func TestQueueChangesFromNoughtOfWhatIsNotThere(t *testing.T) {
 	cells := putWaits()
-	for _, far := range []int{18, 19, 400, impl.MaxWord, -2, -3, -4, -5, -impl.MaxWord} {
+	// The last cell is 8. Halved, 18 is cell 9, and -2 and -3 are cell -1, whose next is cell 0.
+	for _, far := range []int{18, 19, 400, 1000, impl.MaxWord, -2, -3, -4, -5, -impl.MaxWord} {
 		wantRows(t, []queueRow{
-			{fmt.Sprint("5 of ", far), cells, putAt(5, far, 6, 0, 15), 0, cells, putAt(0, far, 6, 0, 15), -1},
-			{fmt.Sprint("10 of ", far), cells, cancelled(takeAt(10, 0, 0, 0, far)), 0, cells, cancelled(takeAt(9, 0, 0, 0, far)), -1},
-			{fmt.Sprint("13 of ", far), cells, putAt(13, 0, 6, far), 0, cells, putAt(12, 0, 6, far), -1},
+			{fmt.Sprint("5 of a put, ", far), cells, putAt(5, far, 6, 0, 15), 0, cells, putAt(8, far, 6, 0, 15), -1},
+			{fmt.Sprint("5 of a take, ", far), cells, takeAt(5, far, 6, 0, 18), 0, cells, takeAt(8, far, 6, 0, 18), -1},
+			{fmt.Sprint("5 without a node, ", far), cells, takeAt(5, far, 6), 0, cells, takeAt(8, far, 6), -1},
 		})
 	}
-	for _, none := range []int{-1, 0, 1} {
+	for _, far := range []int{-1, 0, 1, 18, 19, 400, 1000, impl.MaxWord, -2, -3, -4, -5, -impl.MaxWord} {
 		wantRows(t, []queueRow{
-			{fmt.Sprint("10 of cell 0, ", none), cells, takeAt(10, 0, 0, 0, none), 0, cells, takeAt(9, 0, 0, 0, none), -1},
-			{fmt.Sprint("13 of cell 0, ", none), cells, putAt(13, 0, 6, none), 0, cells, putAt(12, 0, 6, none), -1},
-			{fmt.Sprint("13 of cell 0 from 0 to 0, ", none), cells, takeAt(13, 0, 6, none), 0, cells, takeAt(12, 0, 6, none), -1},
+			{fmt.Sprint("10, cancelled, ", far), cells, cancelled(takeAt(10, 6, 0, 0, far)), 0, cells, ended(3, impl.ErrCancelled, 0), -1},
+			{fmt.Sprint("10, its time over, ", far), cells, until(takeAt(10, 6, 0, 0, far), 3), 4, cells, ended(3, impl.ErrTimeout, 0), -1},
+			{fmt.Sprint("13 of a put, ", far), cells, putAt(13, 0, 6, far), 0, cells, putAt(14, 0, 6, far), -1},
+			{fmt.Sprint("13 of a take, from 0 to 0, ", far), cells, takeAt(13, 0, 6, far), 0, cells, takeAt(14, 0, 6, far), -1},
 		})
 	}
+}
+
+// From any other number a change of a cell that is not there fails.
+func TestQueueChangesFromOthersOfWhatIsNotThere(t *testing.T) {
+	cells := putWaits()
+	for _, far := range []int{-1, 0, 1, 18, 19, 400, 1000, impl.MaxWord, -2, -3, -4, -5, -impl.MaxWord} {
+		wantRows(t, []queueRow{
+			{fmt.Sprint("10 of a put, ", far), cells, cancelled(putAt(10, 0, 0, 0, far)), 0, cells, cancelled(putAt(9, 0, 0, 0, far)), -1},
+		})
+		for _, x := range []int{-impl.MaxWord, -1, 1, 7, impl.MaxWord} {
+			wantRows(t, []queueRow{
+				{fmt.Sprint("13 of a put, ", far, x), cells, putAt(13, 0, 6, far, 0, x), 0, cells, putAt(12, 0, 6, far, 0, x), -1},
+				{fmt.Sprint("13 of a take, ", far, x), cells, takeAt(13, 0, 6, far, 0, x), 0, cells, takeAt(12, 0, 6, far, 0, x), -1},
+			})
+		}
+	}
+}
+
+// The last cell is there, and the one behind it is not, though both are 0.
+func TestQueueChangesAtTheLastCell(t *testing.T) {
+	cells := withCell(putWaits(), 8, 0)
+	wantRows(t, []queueRow{
+		{"5 in the last cell", cells, putAt(5, 14, 6, 0, 15), 0, withCell(cells, 8, 15), putAt(8, 14, 6, 0, 15), -1},
+		{"5 behind it", cells, putAt(5, 16, 6, 0, 15), 0, cells, putAt(8, 16, 6, 0, 15), -1},
+		{"10 in the last cell", cells, cancelled(takeAt(10, 6, 0, 0, 16)), 0, withCell(cells, 8, -1), ended(3, impl.ErrCancelled, 0), -1},
+		{"10 behind it", cells, cancelled(takeAt(10, 6, 0, 0, 18)), 0, cells, ended(3, impl.ErrCancelled, 0), -1},
+		{"13 in the last cell", cells, putAt(13, 0, 6, 16), 0, withCell(cells, 8, 8), putAt(14, 0, 6, 16), -1},
+		{"13 behind it", cells, putAt(13, 0, 6, 18), 0, cells, putAt(14, 0, 6, 18), -1},
+		{"5 of none, whose next is the head, not 0", cells, putAt(5, 0, 6, 0, 15), 0, cells, putAt(0, 0, 6, 0, 15), -1},
+	})
 }
 
 // Below 0 a register is halved towards 0; an odd one is of neither kind as T, and does not bring as N.
