@@ -9,8 +9,11 @@ import (
 	"loop.example/g00624/impl"
 )
 
-// queueRow is one step: what it is given, and all that it is to answer.
-type queueRow struct {
+// stepCall is StepQueue, or another call like it.
+type stepCall func(impl.Arena, impl.Thread, int) (impl.Arena, impl.Thread, int, int)
+
+// stepRow is one step: what it is given, and all that it is to answer.
+type stepRow struct {
 	name   string
 	cells  []int
 	thread impl.Thread
@@ -69,13 +72,18 @@ func cancelled(x impl.Thread) impl.Thread {
 	return x
 }
 
-func wantRows(t *testing.T, rows []queueRow) {
+func wantRows(t *testing.T, rows []stepRow) {
+	t.Helper()
+	wantSteps(t, impl.StepQueue, rows)
+}
+
+func wantSteps(t *testing.T, step stepCall, rows []stepRow) {
 	t.Helper()
 	for _, r := range rows {
 		if !impl.ThreadOK(r.thread) || !impl.ArenaOK(arenaOf(r.cells...)) {
 			t.Errorf("%s: the row itself is not right", r.name)
 		}
-		b, y, wakes, code := impl.StepQueue(arenaOf(r.cells...), r.thread, r.now)
+		b, y, wakes, code := step(arenaOf(r.cells...), r.thread, r.now)
 		wantCode(t, r.name, code, impl.OK)
 		wantCells(t, r.name, b, r.want...)
 		wantThread(t, r.name, y, r.then)
@@ -167,7 +175,7 @@ func TestQueueJoins(t *testing.T) {
 	empty, puts, takes := emptyQueue(), putWaits(), takeWaits()
 	lags := withCell(puts, 2, 6)
 	linked := []int{0, 6, 13, -1, 13, 0, 6, 15, 1}
-	wantRows(t, []queueRow{
+	wantRows(t, []stepRow{
 		{"0 of a put", puts, putAt(0, 1, 2, 3, 4, 5), 0, puts, putAt(1, 13, 2, 3, 4, 5), -1},
 		{"0 of a take", empty, takeAt(0), 0, empty, takeAt(1, 6), -1},
 		{"1, empty, put", empty, putAt(1, 6), 0, empty, putAt(2, 6, 6), -1},
@@ -196,24 +204,24 @@ func TestQueueNewNodes(t *testing.T) {
 		for _, arg := range []int{0, 1, 998, 999} {
 			x := running(id, impl.OpPut, arg, 4, [5]int{})
 			then := running(id, impl.OpPut, arg, 5, [5]int{0, 0, 0, 13})
-			wantRows(t, []queueRow{{fmt.Sprint("put of ", arg), emptyQueue(), x, 0, append(emptyQueue(), arg+1, 0, id+1), then, -1}})
+			wantRows(t, []stepRow{{fmt.Sprint("put of ", arg), emptyQueue(), x, 0, append(emptyQueue(), arg+1, 0, id+1), then, -1}})
 		}
 		x := running(id, impl.OpTake, 0, 4, [5]int{})
 		then := running(id, impl.OpTake, 0, 5, [5]int{0, 0, 0, 12})
-		wantRows(t, []queueRow{{"take", emptyQueue(), x, 0, append(emptyQueue(), 0, 0, id+1), then, -1}})
+		wantRows(t, []stepRow{{"take", emptyQueue(), x, 0, append(emptyQueue(), 0, 0, id+1), then, -1}})
 	}
 }
 
 func TestQueueWithoutRoom(t *testing.T) {
 	for room := range 3 {
 		cells := fullQueue(emptyQueue(), room)
-		wantRows(t, []queueRow{
+		wantRows(t, []stepRow{
 			{"put without room", cells, until(putAt(4, 6, 6), 9), 9, cells, ended(2, impl.ErrFull, 0), -1},
 			{"take without room", cells, cancelled(takeAt(4, 6, 6)), 0, cells, ended(3, impl.ErrFull, 0), -1},
 		})
 	}
 	last := fullQueue(emptyQueue(), 3)
-	wantRows(t, []queueRow{
+	wantRows(t, []stepRow{
 		{"the last node", last, takeAt(4, 6, 6), 0, append(slices.Clone(last), 0, 0, 4), takeAt(5, 6, 6, 0, 794), -1},
 		{"the last node of a put", last, putAt(4, 6, 6), 0, append(slices.Clone(last), 8, 0, 3), putAt(5, 6, 6, 0, 795), -1},
 	})
@@ -226,7 +234,7 @@ func TestQueueWaits(t *testing.T) {
 	taken, given := withCell(puts, 6, 0), withCell(takes, 6, 6)
 	gone, left := withCell(puts, 6, -1), withCell(takes, 6, -1)
 	parked := func(x impl.Thread) impl.Thread { return withStatus(x, impl.ThParked) }
-	wantRows(t, []queueRow{
+	wantRows(t, []stepRow{
 		{"9 parks a put", puts, putAt(9, 6, 6, 0, 13, 99), 0, puts, parked(putAt(9, 6, 6, 0, 13, 8)), -1},
 		{"9 parks a take", takes, takeAt(9, 6, 6, 0, 12, 99), 0, takes, parked(takeAt(9, 6, 6, 0, 12, 0)), -1},
 		{"9 with a Permit", takes, withPermit(takeAt(9, 6, 6, 0, 12), true), 0, takes, takeAt(9, 6, 6, 0, 12), -1},
@@ -255,7 +263,7 @@ func TestQueueWaits(t *testing.T) {
 func TestQueueGivesUpAheadOfItsNode(t *testing.T) {
 	empty := emptyQueue()
 	lags := withCell(putWaits(), 2, 6)
-	wantRows(t, []queueRow{
+	wantRows(t, []stepRow{
 		{"ahead of its time", empty, until(putAt(2, 6, 6), 9), 8, empty, until(putAt(4, 6, 6), 9), -1},
 		{"at its time", empty, until(putAt(2, 6, 6), 9), 9, empty, ended(2, impl.ErrTimeout, 0), -1},
 		{"at its time with a node", empty, until(takeAt(2, 6, 6, 0, 12), 9), 10, empty, ended(3, impl.ErrTimeout, 0), -1},
@@ -291,7 +299,7 @@ func TestQueueServes(t *testing.T) {
 	empty, puts, takes := emptyQueue(), putWaits(), takeWaits()
 	taken, given := withCell(puts, 6, 0), withCell(takes, 6, 8)
 	gone := withCell(puts, 6, -1)
-	wantRows(t, []queueRow{
+	wantRows(t, []stepRow{
 		{"6 of a take", puts, takeAt(6, 13, 6, 9), 0, puts, takeAt(7, 13, 6, 13), -1},
 		{"6 of none", empty, putAt(6, 12, 6, 9), 0, empty, putAt(0, 12, 6, 0), -1},
 		{"7 of a take, a put waits", puts, takeAt(7, 13, 6, 13), 0, puts, takeAt(13, 13, 6, 13, 0, 6), -1},
@@ -322,7 +330,7 @@ func TestQueueServes(t *testing.T) {
 func TestQueueLoadsWhatIsNotThere(t *testing.T) {
 	cells := putWaits()
 	for _, far := range []int{18, 20, 400, 800, impl.MaxWord, -4, -6, -400, -impl.MaxWord} {
-		wantRows(t, []queueRow{
+		wantRows(t, []stepRow{
 			{fmt.Sprint("2 of ", far), cells, putAt(2, far, 6, 9), 0, cells, putAt(4, far, 6, 0), -1},
 			{fmt.Sprint("6 of ", far), cells, takeAt(6, 0, far, 9), 0, cells, takeAt(0, 0, far, 0), -1},
 			{fmt.Sprint("7 of ", far), cells, putAt(7, 0, 6, far, 0, 9), 0, cells, putAt(13, 0, 6, far), -1},
@@ -330,7 +338,7 @@ func TestQueueLoadsWhatIsNotThere(t *testing.T) {
 			{fmt.Sprint("9 of a take, ", far), cells, takeAt(9, 0, 0, 0, far, 9), 0, cells, withStatus(takeAt(9, 0, 0, 0, far), impl.ThParked), -1},
 		})
 	}
-	wantRows(t, []queueRow{
+	wantRows(t, []stepRow{
 		{"the owner behind the last cell", cells, takeAt(15, 0, 0, 14, 0, 1), 0, cells, ended(3, 0, 0), -1},
 		{"the owner ahead of the first one", cells, takeAt(15, 0, 0, -6, 0, 1), 0, cells, ended(3, 0, 0), -1},
 		{"the owner far behind", cells, putAt(15, 0, 0, impl.MaxWord), 0, cells, ended(2, 0, 7), -1},
@@ -346,14 +354,14 @@ func TestQueueChangesFromNoughtOfWhatIsNotThere(t *testing.T) {
 	cells := putWaits()
 	// The last cell is 8. Halved, 18 is cell 9, and -2 and -3 are cell -1, whose next is cell 0.
 	for _, far := range []int{18, 19, 400, 1000, impl.MaxWord, -2, -3, -4, -5, -impl.MaxWord} {
-		wantRows(t, []queueRow{
+		wantRows(t, []stepRow{
 			{fmt.Sprint("5 of a put, ", far), cells, putAt(5, far, 6, 0, 15), 0, cells, putAt(8, far, 6, 0, 15), -1},
 			{fmt.Sprint("5 of a take, ", far), cells, takeAt(5, far, 6, 0, 18), 0, cells, takeAt(8, far, 6, 0, 18), -1},
 			{fmt.Sprint("5 without a node, ", far), cells, takeAt(5, far, 6), 0, cells, takeAt(8, far, 6), -1},
 		})
 	}
 	for _, far := range []int{-1, 0, 1, 18, 19, 400, 1000, impl.MaxWord, -2, -3, -4, -5, -impl.MaxWord} {
-		wantRows(t, []queueRow{
+		wantRows(t, []stepRow{
 			{fmt.Sprint("10, cancelled, ", far), cells, cancelled(takeAt(10, 6, 0, 0, far)), 0, cells, ended(3, impl.ErrCancelled, 0), -1},
 			{fmt.Sprint("10, its time over, ", far), cells, until(takeAt(10, 6, 0, 0, far), 3), 4, cells, ended(3, impl.ErrTimeout, 0), -1},
 			{fmt.Sprint("13 of a put, ", far), cells, putAt(13, 0, 6, far), 0, cells, putAt(14, 0, 6, far), -1},
@@ -366,11 +374,11 @@ func TestQueueChangesFromNoughtOfWhatIsNotThere(t *testing.T) {
 func TestQueueChangesFromOthersOfWhatIsNotThere(t *testing.T) {
 	cells := putWaits()
 	for _, far := range []int{-1, 0, 1, 18, 19, 400, 1000, impl.MaxWord, -2, -3, -4, -5, -impl.MaxWord} {
-		wantRows(t, []queueRow{
+		wantRows(t, []stepRow{
 			{fmt.Sprint("10 of a put, ", far), cells, cancelled(putAt(10, 0, 0, 0, far)), 0, cells, cancelled(putAt(9, 0, 0, 0, far)), -1},
 		})
 		for _, x := range []int{-impl.MaxWord, -1, 1, 7, impl.MaxWord} {
-			wantRows(t, []queueRow{
+			wantRows(t, []stepRow{
 				{fmt.Sprint("13 of a put, ", far, x), cells, putAt(13, 0, 6, far, 0, x), 0, cells, putAt(12, 0, 6, far, 0, x), -1},
 				{fmt.Sprint("13 of a take, ", far, x), cells, takeAt(13, 0, 6, far, 0, x), 0, cells, takeAt(12, 0, 6, far, 0, x), -1},
 			})
@@ -381,7 +389,7 @@ func TestQueueChangesFromOthersOfWhatIsNotThere(t *testing.T) {
 // The last cell is there, and the one behind it is not, though both are 0.
 func TestQueueChangesAtTheLastCell(t *testing.T) {
 	cells := withCell(putWaits(), 8, 0)
-	wantRows(t, []queueRow{
+	wantRows(t, []stepRow{
 		{"5 in the last cell", cells, putAt(5, 14, 6, 0, 15), 0, withCell(cells, 8, 15), putAt(8, 14, 6, 0, 15), -1},
 		{"5 behind it", cells, putAt(5, 16, 6, 0, 15), 0, cells, putAt(8, 16, 6, 0, 15), -1},
 		{"10 in the last cell", cells, cancelled(takeAt(10, 6, 0, 0, 16)), 0, withCell(cells, 8, -1), ended(3, impl.ErrCancelled, 0), -1},
@@ -396,17 +404,17 @@ func TestQueueChangesAtTheLastCell(t *testing.T) {
 func TestQueueRegistersBelowNought(t *testing.T) {
 	cells := putWaits()
 	for _, odd := range []int{-1, -3, -13, -999999999} {
-		wantRows(t, []queueRow{
+		wantRows(t, []stepRow{
 			{fmt.Sprint("1 of a put, ", odd), cells, putAt(1, odd), 0, cells, putAt(6, odd, 6), -1},
 			{fmt.Sprint("1 of a take, ", odd), cells, takeAt(1, odd), 0, cells, takeAt(6, odd, 6), -1},
 			{fmt.Sprint("7 of a put, ", odd), cells, putAt(7, 0, 0, odd, 0, 9), 0, cells, putAt(13, 0, 0, odd), -1},
 			{fmt.Sprint("7 of a take, ", odd), cells, takeAt(7, 0, 0, odd, 0, 9), 0, cells, takeAt(12, 0, 0, odd), -1},
 		})
 		alike := withCell(cells, 1, odd)
-		wantRows(t, []queueRow{{fmt.Sprint("1 where the head is T, ", odd), alike, putAt(1, odd), 0, alike, putAt(2, odd, odd), -1}})
+		wantRows(t, []stepRow{{fmt.Sprint("1 where the head is T, ", odd), alike, putAt(1, odd), 0, alike, putAt(2, odd, odd), -1}})
 	}
 	for _, even := range []int{-2, -4, -12, -impl.MaxWord} {
-		wantRows(t, []queueRow{
+		wantRows(t, []stepRow{
 			{fmt.Sprint("1 of a put, ", even), cells, putAt(1, even), 0, cells, putAt(6, even, 6), -1},
 			{fmt.Sprint("1 of a take, ", even), cells, takeAt(1, even), 0, cells, takeAt(2, even, 6), -1},
 			{fmt.Sprint("7 of a put, ", even), cells, putAt(7, 0, 0, even, 0, 9), 0, cells, putAt(13, 0, 0, even), -1},
@@ -414,7 +422,7 @@ func TestQueueRegistersBelowNought(t *testing.T) {
 		})
 	}
 	// Halved, -1 is 0 and -3 is -1: their nodes have the cells from 0 and from -1 on.
-	wantRows(t, []queueRow{
+	wantRows(t, []stepRow{
 		{"2 of -1", cells, takeAt(2, -1), 0, cells, takeAt(3, -1, 0, 6), -1},
 		{"2 of -3", cells, takeAt(2, -3), 0, cells, takeAt(4, -3), -1},
 		{"15 of -1", cells, putAt(15, 0, 0, -1), 0, cells, ended(2, 0, 7), 12},
@@ -430,7 +438,7 @@ func TestQueueResults(t *testing.T) {
 	cells := emptyQueue()
 	for _, pc := range []int{11, 15, 16} {
 		for _, x := range []int{-impl.MaxWord, -1, 0, 1, 2, 1000, impl.MaxWord} {
-			wantRows(t, []queueRow{
+			wantRows(t, []stepRow{
 				{fmt.Sprint("take at ", pc), cells, takeAt(pc, 0, 0, 20, 20, x), 0, cells, ended(3, 0, x-1), -1},
 				{fmt.Sprint("put at ", pc), cells, putAt(pc, 0, 0, 20, 20, x), 0, cells, ended(2, 0, 7), -1},
 			})
@@ -438,9 +446,9 @@ func TestQueueResults(t *testing.T) {
 	}
 }
 
-func wantNoStep(t *testing.T, what string, a impl.Arena, x impl.Thread, now, want int) {
+func wantNoStep(t *testing.T, what string, step stepCall, a impl.Arena, x impl.Thread, now, want int) {
 	t.Helper()
-	b, y, wakes, code := impl.StepQueue(a, x, now)
+	b, y, wakes, code := step(a, x, now)
 	wantCode(t, what, code, want)
 	wantCells(t, what, b)
 	wantThread(t, what, y, impl.Thread{})
@@ -455,22 +463,22 @@ func TestQueueStepFaults(t *testing.T) {
 	idle := ended(1, 12, 0)
 	for name, bad := range badArenas() {
 		for _, now := range []int{-1, 0, 1000001} {
-			wantNoStep(t, "a bad arena, "+name, bad, putAt(0), now, impl.ErrBad)
-			wantNoStep(t, "a bad arena and an idle thread, "+name, bad, idle, now, impl.ErrBad)
+			wantNoStep(t, "a bad arena, "+name, impl.StepQueue, bad, putAt(0), now, impl.ErrBad)
+			wantNoStep(t, "a bad arena and an idle thread, "+name, impl.StepQueue, bad, idle, now, impl.ErrBad)
 		}
 	}
 	for name, bad := range badThreads() {
-		wantNoStep(t, "a bad thread, "+name, right, bad, 0, impl.ErrBad)
-		wantNoStep(t, "a bad thread and few cells, "+name, few, bad, -1, impl.ErrBad)
+		wantNoStep(t, "a bad thread, "+name, impl.StepQueue, right, bad, 0, impl.ErrBad)
+		wantNoStep(t, "a bad thread and few cells, "+name, impl.StepQueue, few, bad, -1, impl.ErrBad)
 	}
 	for n := 1; n < 6; n++ {
 		a := impl.Arena{Cells: make([]int, n)}
-		wantNoStep(t, "few cells", a, takeAt(0), 0, impl.ErrRange)
-		wantNoStep(t, "few cells and an idle thread", a, idle, 0, impl.ErrRange)
+		wantNoStep(t, "few cells", impl.StepQueue, a, takeAt(0), 0, impl.ErrRange)
+		wantNoStep(t, "few cells and an idle thread", impl.StepQueue, a, idle, 0, impl.ErrRange)
 	}
 	for _, now := range timesOut {
-		wantNoStep(t, fmt.Sprint("at ", now), right, putAt(0), now, impl.ErrRange)
-		wantNoStep(t, fmt.Sprint("idle, at ", now), right, idle, now, impl.ErrRange)
+		wantNoStep(t, fmt.Sprint("at ", now), impl.StepQueue, right, putAt(0), now, impl.ErrRange)
+		wantNoStep(t, fmt.Sprint("idle, at ", now), impl.StepQueue, right, idle, now, impl.ErrRange)
 	}
 	for _, now := range []int{0, 1, 999999, 1000000} {
 		if _, _, _, code := impl.StepQueue(right, takeAt(0), now); code != impl.OK {
@@ -482,7 +490,7 @@ func TestQueueStepFaults(t *testing.T) {
 func TestQueueStepsOfNoPutOrTake(t *testing.T) {
 	right := arenaOf(emptyQueue()...)
 	for _, x := range slices.Concat(idleThreads(), parkedThreads()) {
-		wantNoStep(t, "one that does not run", right, x, 0, impl.ErrIdle)
+		wantNoStep(t, "one that does not run", impl.StepQueue, right, x, 0, impl.ErrIdle)
 	}
 	seen := 0
 	for _, x := range runningThreads() {
@@ -492,7 +500,7 @@ func TestQueueStepsOfNoPutOrTake(t *testing.T) {
 			continue
 		}
 		seen++
-		wantNoStep(t, "another call", right, x, 0, impl.ErrIdle)
+		wantNoStep(t, "another call", impl.StepQueue, right, x, 0, impl.ErrIdle)
 	}
 	if seen == 0 {
 		t.Error("no other call was tried")
