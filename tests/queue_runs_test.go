@@ -142,8 +142,14 @@ func (r *queueRun) drain() {
 	r.t.Fatal("they run on and on:", r.threads)
 }
 
-// wantOneCell is the first part of promise 5.
+// wantOneCell is the first part of promise 5; nodes of queues and swaps have three cells.
 func wantOneCell(t *testing.T, was, is []int) {
+	t.Helper()
+	wantOneCellOrNode(t, was, is, 3)
+}
+
+// wantOneCellOrNode: one cell is another one at most, or there is a new node of so many cells.
+func wantOneCellOrNode(t *testing.T, was, is []int, node int) {
 	t.Helper()
 	changed := 0
 	for i := range min(len(was), len(is)) {
@@ -151,7 +157,7 @@ func wantOneCell(t *testing.T, was, is []int) {
 			changed++
 		}
 	}
-	if changed > 1 || len(is) != len(was) && (changed > 0 || len(is) != len(was)+3) {
+	if changed > 1 || len(is) != len(was) && (changed > 0 || len(is) != len(was)+node) {
 		t.Errorf("more than one cell: from %v to %v", was, is)
 	}
 }
