@@ -8,8 +8,11 @@ import (
 	"loop.example/g00624/impl"
 )
 
-// stackRow is one step: what it is given, and all that it is to answer.
-type stackRow struct {
+// plainStep is a step of calls that neither ask for the time nor wake anybody.
+type plainStep func(impl.Arena, impl.Thread) (impl.Arena, impl.Thread, int)
+
+// plainRow is one such step: what it is given, and all that it is to answer.
+type plainRow struct {
 	name   string
 	cells  []int
 	thread impl.Thread
@@ -41,13 +44,18 @@ func lastSteps() []int {
 	return all
 }
 
-func wantStack(t *testing.T, rows ...stackRow) {
+func wantStack(t *testing.T, rows ...plainRow) {
+	t.Helper()
+	wantPlainSteps(t, impl.StepStack, rows)
+}
+
+func wantPlainSteps(t *testing.T, step plainStep, rows []plainRow) {
 	t.Helper()
 	for _, r := range rows {
 		if !impl.ThreadOK(r.thread) || !impl.ArenaOK(arenaOf(r.cells...)) {
 			t.Errorf("%s: the row itself is not right", r.name)
 		}
-		b, y, code := impl.StepStack(arenaOf(r.cells...), r.thread)
+		b, y, code := step(arenaOf(r.cells...), r.thread)
 		wantCode(t, r.name, code, impl.OK)
 		wantCells(t, r.name, b, r.want...)
 		wantThread(t, r.name, y, r.then)
@@ -103,29 +111,29 @@ func TestPushSteps(t *testing.T) {
 	laid := withCell(comes, 11, 8)
 	onTop := withCell(laid, 7, 10)
 	wantStack(t,
-		stackRow{"0 of an empty stack", empty, pushAt(0), append(emptyStack(), 7, 0), pushAt(1, 0, 8)},
-		stackRow{"0 behind others", two, pushAt(0), append(twoLie(), 7, 0), pushAt(1, 0, 12)},
-		stackRow{"0 keeps the other registers", empty, pushAt(0, 1, 2, 3, 4, 5), append(emptyStack(), 7, 0), pushAt(1, 1, 8, 3, 4, 5)},
-		stackRow{"1 of an empty stack", empty, pushAt(1, 9, 8, 3, 4, 5), empty, pushAt(2, 0, 8, 3, 4, 5)},
-		stackRow{"1 of another one's top", comes, pushAt(1, 0, 10), comes, pushAt(2, 8, 10)},
-		stackRow{"1 of one's own node", withCell(comes, 7, 10), pushAt(1, 8, 10), withCell(comes, 7, 10), pushAt(2, 10, 10)},
-		stackRow{"2 lays the node on the top", comes, pushAt(2, 8, 10, 3, 4, 5), laid, pushAt(3, 8, 10, 3, 4, 5)},
-		stackRow{"2 on nothing", laid, pushAt(2, 0, 10), comes, pushAt(3, 0, 10)},
-		stackRow{"2 on another one than ahead", laid, pushAt(2, 12, 10), withCell(laid, 11, 12), pushAt(3, 12, 10)},
-		stackRow{"2 does not look at the top", withCell(comes, 7, 0), pushAt(2, 8, 10), withCell(laid, 7, 0), pushAt(3, 8, 10)},
-		stackRow{"2 on itself", comes, pushAt(2, 10, 10), withCell(comes, 11, 10), pushAt(3, 10, 10)},
+		plainRow{"0 of an empty stack", empty, pushAt(0), append(emptyStack(), 7, 0), pushAt(1, 0, 8)},
+		plainRow{"0 behind others", two, pushAt(0), append(twoLie(), 7, 0), pushAt(1, 0, 12)},
+		plainRow{"0 keeps the other registers", empty, pushAt(0, 1, 2, 3, 4, 5), append(emptyStack(), 7, 0), pushAt(1, 1, 8, 3, 4, 5)},
+		plainRow{"1 of an empty stack", empty, pushAt(1, 9, 8, 3, 4, 5), empty, pushAt(2, 0, 8, 3, 4, 5)},
+		plainRow{"1 of another one's top", comes, pushAt(1, 0, 10), comes, pushAt(2, 8, 10)},
+		plainRow{"1 of one's own node", withCell(comes, 7, 10), pushAt(1, 8, 10), withCell(comes, 7, 10), pushAt(2, 10, 10)},
+		plainRow{"2 lays the node on the top", comes, pushAt(2, 8, 10, 3, 4, 5), laid, pushAt(3, 8, 10, 3, 4, 5)},
+		plainRow{"2 on nothing", laid, pushAt(2, 0, 10), comes, pushAt(3, 0, 10)},
+		plainRow{"2 on another one than ahead", laid, pushAt(2, 12, 10), withCell(laid, 11, 12), pushAt(3, 12, 10)},
+		plainRow{"2 does not look at the top", withCell(comes, 7, 0), pushAt(2, 8, 10), withCell(laid, 7, 0), pushAt(3, 8, 10)},
+		plainRow{"2 on itself", comes, pushAt(2, 10, 10), withCell(comes, 11, 10), pushAt(3, 10, 10)},
 	)
 	for _, pc := range lastSteps() {
 		wantStack(t,
-			stackRow{fmt.Sprint("the top is moved at ", pc), laid, pushAt(pc, 8, 10, 3, 4, 5), onTop, ended(2, impl.OK, 7)},
-			stackRow{fmt.Sprint("from none at ", pc), withCell(comes, 7, 0), pushAt(pc, 0, 10), withCell(comes, 7, 10), ended(2, impl.OK, 7)},
-			stackRow{fmt.Sprint("the top is another one at ", pc), two, pushAt(pc, 8, 12, 3, 4, 5), two, pushAt(1, 8, 12, 3, 4, 5)},
-			stackRow{fmt.Sprint("the top is none any more at ", pc), empty, pushAt(pc, 8, 10), empty, pushAt(1, 8, 10)},
-			stackRow{fmt.Sprint("the top is none no more at ", pc), laid, pushAt(pc, 0, 10), laid, pushAt(1, 0, 10)},
-			stackRow{fmt.Sprint("the top is one's own node at ", pc), onTop, pushAt(pc, 8, 10), onTop, pushAt(1, 8, 10)},
-			stackRow{fmt.Sprint("from one's own node at ", pc), onTop, pushAt(pc, 10, 10), onTop, ended(2, impl.OK, 7)},
-			stackRow{fmt.Sprint("what lies below does not count at ", pc), comes, pushAt(pc, 8, 10), withCell(comes, 7, 10), ended(2, impl.OK, 7)},
-			stackRow{fmt.Sprint("the node's value does not count at ", pc), withCell(laid, 10, 3), pushAt(pc, 8, 10), withCell(onTop, 10, 3), ended(2, impl.OK, 7)},
+			plainRow{fmt.Sprint("the top is moved at ", pc), laid, pushAt(pc, 8, 10, 3, 4, 5), onTop, ended(2, impl.OK, 7)},
+			plainRow{fmt.Sprint("from none at ", pc), withCell(comes, 7, 0), pushAt(pc, 0, 10), withCell(comes, 7, 10), ended(2, impl.OK, 7)},
+			plainRow{fmt.Sprint("the top is another one at ", pc), two, pushAt(pc, 8, 12, 3, 4, 5), two, pushAt(1, 8, 12, 3, 4, 5)},
+			plainRow{fmt.Sprint("the top is none any more at ", pc), empty, pushAt(pc, 8, 10), empty, pushAt(1, 8, 10)},
+			plainRow{fmt.Sprint("the top is none no more at ", pc), laid, pushAt(pc, 0, 10), laid, pushAt(1, 0, 10)},
+			plainRow{fmt.Sprint("the top is one's own node at ", pc), onTop, pushAt(pc, 8, 10), onTop, pushAt(1, 8, 10)},
+			plainRow{fmt.Sprint("from one's own node at ", pc), onTop, pushAt(pc, 10, 10), onTop, ended(2, impl.OK, 7)},
+			plainRow{fmt.Sprint("what lies below does not count at ", pc), comes, pushAt(pc, 8, 10), withCell(comes, 7, 10), ended(2, impl.OK, 7)},
+			plainRow{fmt.Sprint("the node's value does not count at ", pc), withCell(laid, 10, 3), pushAt(pc, 8, 10), withCell(onTop, 10, 3), ended(2, impl.OK, 7)},
 		)
 	}
 }
@@ -137,8 +145,8 @@ func TestPushValues(t *testing.T) {
 			made := append(emptyStack(), arg, 0)
 			name := fmt.Sprint("push of ", arg)
 			wantStack(t,
-				stackRow{name, emptyStack(), running(id, impl.OpPush, arg, 0, [5]int{}), made, running(id, impl.OpPush, arg, 1, [5]int{0, 8})},
-				stackRow{name, made, running(id, impl.OpPush, arg, 3, [5]int{0, 8}), withCell(made, 7, 8), ended(id, impl.OK, arg)},
+				plainRow{name, emptyStack(), running(id, impl.OpPush, arg, 0, [5]int{}), made, running(id, impl.OpPush, arg, 1, [5]int{0, 8})},
+				plainRow{name, made, running(id, impl.OpPush, arg, 3, [5]int{0, 8}), withCell(made, 7, 8), ended(id, impl.OK, arg)},
 			)
 		}
 	}
@@ -148,17 +156,17 @@ func TestPushWithoutRoom(t *testing.T) {
 	for room := range 2 {
 		cells := fullQueue(twoLie(), room)
 		wantStack(t,
-			stackRow{"no room for a node", cells, pushAt(0, 1, 2, 3), cells, ended(2, impl.ErrFull, 0)},
-			stackRow{"1 needs no room", cells, pushAt(1, 0, 8), cells, pushAt(2, 10, 8)},
-			stackRow{"a pop needs no room", cells, popAt(2, 10, 8), withCell(cells, 7, 8), popAt(3, 10, 8)},
+			plainRow{"no room for a node", cells, pushAt(0, 1, 2, 3), cells, ended(2, impl.ErrFull, 0)},
+			plainRow{"1 needs no room", cells, pushAt(1, 0, 8), cells, pushAt(2, 10, 8)},
+			plainRow{"a pop needs no room", cells, popAt(2, 10, 8), withCell(cells, 7, 8), popAt(3, 10, 8)},
 		)
 	}
 	last := fullQueue(emptyStack(), 2)
-	wantStack(t, stackRow{"the last node", last, pushAt(0), append(slices.Clone(last), 7, 0), pushAt(1, 0, 398)})
+	wantStack(t, plainRow{"the last node", last, pushAt(0), append(slices.Clone(last), 7, 0), pushAt(1, 0, 398)})
 	full := append(slices.Clone(last), 7, 0)
 	wantStack(t,
-		stackRow{"the last node is laid", full, pushAt(2, 9, 398), withCell(full, 399, 9), pushAt(3, 9, 398)},
-		stackRow{"the last node is the top", full, pushAt(3, 0, 398), withCell(full, 7, 398), ended(2, impl.OK, 7)},
+		plainRow{"the last node is laid", full, pushAt(2, 9, 398), withCell(full, 399, 9), pushAt(3, 9, 398)},
+		plainRow{"the last node is the top", full, pushAt(3, 0, 398), withCell(full, 7, 398), ended(2, impl.OK, 7)},
 	)
 }
 
@@ -166,26 +174,26 @@ func TestPopSteps(t *testing.T) {
 	empty, two := emptyStack(), twoLie()
 	popped := withCell(two, 7, 8)
 	wantStack(t,
-		stackRow{"0 of an empty stack", empty, popAt(0), empty, ended(3, impl.ErrEmpty, 0)},
-		stackRow{"0 of a stack that is empty by now", withCell(two, 7, 0), popAt(0, 10, 8, 3), withCell(two, 7, 0), ended(3, impl.ErrEmpty, 0)},
-		stackRow{"0 reads the top", two, popAt(0), two, popAt(1, 10)},
-		stackRow{"0 reads another top", popped, popAt(0, 10, 8, 3, 4, 5), popped, popAt(1, 8, 8, 3, 4, 5)},
-		stackRow{"1 reads what is below", two, popAt(1, 10, 9, 3, 4, 5), two, popAt(2, 10, 8, 3, 4, 5)},
-		stackRow{"1 of the last one", popped, popAt(1, 8, 9), popped, popAt(2, 8, 0)},
-		stackRow{"1 of one that was popped", popped, popAt(1, 10, 9), popped, popAt(2, 10, 8)},
-		stackRow{"2 moves the top", two, popAt(2, 10, 8, 3, 4, 5), popped, popAt(3, 10, 8, 3, 4, 5)},
-		stackRow{"2 of the last one", popped, popAt(2, 8, 0), withCell(two, 7, 0), popAt(3, 8, 0)},
-		stackRow{"2, the top is another one", popped, popAt(2, 10, 8, 3, 4, 5), popped, popAt(0, 10, 8, 3, 4, 5)},
-		stackRow{"2, the top is none any more", withCell(two, 7, 0), popAt(2, 10, 8), withCell(two, 7, 0), popAt(0, 10, 8)},
-		stackRow{"2, the top is what was below", popped, popAt(2, 10, 8), popped, popAt(0, 10, 8)},
-		stackRow{"2 does not look below again", withCell(two, 11, 0), popAt(2, 10, 8), withCell(popped, 11, 0), popAt(3, 10, 8)},
-		stackRow{"2 from a node to itself", two, popAt(2, 10, 10), two, popAt(3, 10, 10)},
+		plainRow{"0 of an empty stack", empty, popAt(0), empty, ended(3, impl.ErrEmpty, 0)},
+		plainRow{"0 of a stack that is empty by now", withCell(two, 7, 0), popAt(0, 10, 8, 3), withCell(two, 7, 0), ended(3, impl.ErrEmpty, 0)},
+		plainRow{"0 reads the top", two, popAt(0), two, popAt(1, 10)},
+		plainRow{"0 reads another top", popped, popAt(0, 10, 8, 3, 4, 5), popped, popAt(1, 8, 8, 3, 4, 5)},
+		plainRow{"1 reads what is below", two, popAt(1, 10, 9, 3, 4, 5), two, popAt(2, 10, 8, 3, 4, 5)},
+		plainRow{"1 of the last one", popped, popAt(1, 8, 9), popped, popAt(2, 8, 0)},
+		plainRow{"1 of one that was popped", popped, popAt(1, 10, 9), popped, popAt(2, 10, 8)},
+		plainRow{"2 moves the top", two, popAt(2, 10, 8, 3, 4, 5), popped, popAt(3, 10, 8, 3, 4, 5)},
+		plainRow{"2 of the last one", popped, popAt(2, 8, 0), withCell(two, 7, 0), popAt(3, 8, 0)},
+		plainRow{"2, the top is another one", popped, popAt(2, 10, 8, 3, 4, 5), popped, popAt(0, 10, 8, 3, 4, 5)},
+		plainRow{"2, the top is none any more", withCell(two, 7, 0), popAt(2, 10, 8), withCell(two, 7, 0), popAt(0, 10, 8)},
+		plainRow{"2, the top is what was below", popped, popAt(2, 10, 8), popped, popAt(0, 10, 8)},
+		plainRow{"2 does not look below again", withCell(two, 11, 0), popAt(2, 10, 8), withCell(popped, 11, 0), popAt(3, 10, 8)},
+		plainRow{"2 from a node to itself", two, popAt(2, 10, 10), two, popAt(3, 10, 10)},
 	)
 	for _, pc := range lastSteps() {
 		wantStack(t,
-			stackRow{fmt.Sprint("its value at ", pc), popped, popAt(pc, 10, 8, 3, 4, 5), popped, ended(3, impl.OK, 5)},
-			stackRow{fmt.Sprint("of the last one at ", pc), withCell(two, 7, 0), popAt(pc, 8), withCell(two, 7, 0), ended(3, impl.OK, 6)},
-			stackRow{fmt.Sprint("it does not look at the top at ", pc), two, popAt(pc, 8, 10), two, ended(3, impl.OK, 6)},
+			plainRow{fmt.Sprint("its value at ", pc), popped, popAt(pc, 10, 8, 3, 4, 5), popped, ended(3, impl.OK, 5)},
+			plainRow{fmt.Sprint("of the last one at ", pc), withCell(two, 7, 0), popAt(pc, 8), withCell(two, 7, 0), ended(3, impl.OK, 6)},
+			plainRow{fmt.Sprint("it does not look at the top at ", pc), two, popAt(pc, 8, 10), two, ended(3, impl.OK, 6)},
 		)
 	}
 }
@@ -199,7 +207,7 @@ func TestPopValues(t *testing.T) {
 		for id := range 4 {
 			for _, pc := range lastSteps() {
 				x := running(id, impl.OpPop, 0, pc, [5]int{10, 8})
-				wantStack(t, stackRow{fmt.Sprint("a value of ", v), cells, x, cells, ended(id, impl.OK, result)})
+				wantStack(t, plainRow{fmt.Sprint("a value of ", v), cells, x, cells, ended(id, impl.OK, result)})
 			}
 		}
 		wantItems(t, fmt.Sprint("a value of ", v), cells, v, 6)
@@ -216,7 +224,7 @@ func TestStackDoesNotGiveUp(t *testing.T) {
 				if plain.Status == impl.ThRuns {
 					plain = withPermit(cancelled(plain), true)
 				}
-				wantStack(t, stackRow{fmt.Sprint("cancelled at ", pc), cells, withPermit(cancelled(x), true), b.Cells, plain})
+				wantStack(t, plainRow{fmt.Sprint("cancelled at ", pc), cells, withPermit(cancelled(x), true), b.Cells, plain})
 			}
 		}
 	}
@@ -227,17 +235,17 @@ func TestStackLoadsWhatIsNotThere(t *testing.T) {
 	two := twoLie()
 	for _, far := range []int{12, 13, 399, 400, 1000, impl.MaxWord, -1, -2, -3, -400, -impl.MaxWord} {
 		wantStack(t,
-			stackRow{fmt.Sprint("below ", far), two, popAt(1, far, 9), two, popAt(2, far, 0)},
-			stackRow{fmt.Sprint("the value of ", far), two, popAt(3, far, 9), two, ended(3, impl.OK, 0)},
+			plainRow{fmt.Sprint("below ", far), two, popAt(1, far, 9), two, popAt(2, far, 0)},
+			plainRow{fmt.Sprint("the value of ", far), two, popAt(3, far, 9), two, ended(3, impl.OK, 0)},
 		)
 	}
 	wantStack(t,
-		stackRow{"below 0 is the head", two, popAt(1, 0, 9), two, popAt(2, 0, 6)},
-		stackRow{"the value of 0", two, popAt(3, 0, 9), two, ended(3, impl.OK, 0)},
-		stackRow{"below the last cell", two, popAt(1, 11, 9), two, popAt(2, 11, 0)},
-		stackRow{"the value in the last cell", two, popAt(3, 11, 9), two, ended(3, impl.OK, 8)},
-		stackRow{"below in the last cell", two, popAt(1, 10, 9), two, popAt(2, 10, 8)},
-		stackRow{"below the slot is the top", two, popAt(1, 6, 9), two, popAt(2, 6, 10)},
+		plainRow{"below 0 is the head", two, popAt(1, 0, 9), two, popAt(2, 0, 6)},
+		plainRow{"the value of 0", two, popAt(3, 0, 9), two, ended(3, impl.OK, 0)},
+		plainRow{"below the last cell", two, popAt(1, 11, 9), two, popAt(2, 11, 0)},
+		plainRow{"the value in the last cell", two, popAt(3, 11, 9), two, ended(3, impl.OK, 8)},
+		plainRow{"below in the last cell", two, popAt(1, 10, 9), two, popAt(2, 10, 8)},
+		plainRow{"below the slot is the top", two, popAt(1, 6, 9), two, popAt(2, 6, 10)},
 	)
 }
 
@@ -246,13 +254,13 @@ func TestPushWritesToWhatIsNotThere(t *testing.T) {
 	two := twoLie()
 	for _, far := range []int{11, 12, 13, 399, 400, 1000, impl.MaxWord, -1, -2, -3, -400, -impl.MaxWord} {
 		for _, below := range []int{-impl.MaxWord, -1, 0, 1, 8, impl.MaxWord} {
-			wantStack(t, stackRow{fmt.Sprint("below ", far), two, pushAt(2, below, far), two, pushAt(3, below, far)})
+			wantStack(t, plainRow{fmt.Sprint("below ", far), two, pushAt(2, below, far), two, pushAt(3, below, far)})
 		}
 	}
 	wantStack(t,
-		stackRow{"in the last cell", two, pushAt(2, 3, 10), withCell(two, 11, 3), pushAt(3, 3, 10)},
-		stackRow{"below 0 is the head", two, pushAt(2, 3, 0), withCell(two, 1, 3), pushAt(3, 3, 0)},
-		stackRow{"below the slot is the top", two, pushAt(2, 3, 6), withCell(two, 7, 3), pushAt(3, 3, 6)},
+		plainRow{"in the last cell", two, pushAt(2, 3, 10), withCell(two, 11, 3), pushAt(3, 3, 10)},
+		plainRow{"below 0 is the head", two, pushAt(2, 3, 0), withCell(two, 1, 3), pushAt(3, 3, 0)},
+		plainRow{"below the slot is the top", two, pushAt(2, 3, 6), withCell(two, 7, 3), pushAt(3, 3, 6)},
 	)
 }
 
@@ -262,20 +270,20 @@ func TestStackStepsWithoutATop(t *testing.T) {
 	for _, cells := range [][]int{emptyQueue(), emptySwap()} {
 		n := len(cells)
 		wantStack(t,
-			stackRow{"push 0", cells, pushAt(0), append(slices.Clone(cells), 7, 0), pushAt(1, 0, n)},
-			stackRow{"push 1", cells, pushAt(1, 9, 3), cells, pushAt(2, 0, 3)},
-			stackRow{"push 2", cells, pushAt(2, 9, 3), withCell(cells, 4, 9), pushAt(3, 9, 3)},
-			stackRow{"push 3 from 0", cells, pushAt(3, 0, 3), cells, ended(2, impl.OK, 7)},
-			stackRow{"push 16 from 0", cells, pushAt(16, 0, 3), cells, ended(2, impl.OK, 7)},
-			stackRow{"pop 0", cells, popAt(0, 9), cells, ended(3, impl.ErrEmpty, 0)},
-			stackRow{"pop 1", cells, popAt(1, 1), cells, popAt(2, 1, 6)},
-			stackRow{"pop 2 from 0", cells, popAt(2, 0, 3), cells, popAt(3, 0, 3)},
-			stackRow{"pop 3", cells, popAt(3, 2), cells, ended(3, impl.OK, 6)},
+			plainRow{"push 0", cells, pushAt(0), append(slices.Clone(cells), 7, 0), pushAt(1, 0, n)},
+			plainRow{"push 1", cells, pushAt(1, 9, 3), cells, pushAt(2, 0, 3)},
+			plainRow{"push 2", cells, pushAt(2, 9, 3), withCell(cells, 4, 9), pushAt(3, 9, 3)},
+			plainRow{"push 3 from 0", cells, pushAt(3, 0, 3), cells, ended(2, impl.OK, 7)},
+			plainRow{"push 16 from 0", cells, pushAt(16, 0, 3), cells, ended(2, impl.OK, 7)},
+			plainRow{"pop 0", cells, popAt(0, 9), cells, ended(3, impl.ErrEmpty, 0)},
+			plainRow{"pop 1", cells, popAt(1, 1), cells, popAt(2, 1, 6)},
+			plainRow{"pop 2 from 0", cells, popAt(2, 0, 3), cells, popAt(3, 0, 3)},
+			plainRow{"pop 3", cells, popAt(3, 2), cells, ended(3, impl.OK, 6)},
 		)
 		for _, old := range []int{-impl.MaxWord, -1, 1, 3, 7, impl.MaxWord} {
 			wantStack(t,
-				stackRow{"push 3 from another", cells, pushAt(3, old, 3), cells, pushAt(1, old, 3)},
-				stackRow{"pop 2 from another", cells, popAt(2, old, 3), cells, popAt(0, old, 3)},
+				plainRow{"push 3 from another", cells, pushAt(3, old, 3), cells, pushAt(1, old, 3)},
+				plainRow{"pop 2 from another", cells, popAt(2, old, 3), cells, popAt(0, old, 3)},
 			)
 		}
 	}
@@ -286,28 +294,33 @@ func TestStackNumbersOfAnySort(t *testing.T) {
 	for _, v := range []int{-impl.MaxWord, -9, -2, -1, 1, 2, 7, 12, 400, impl.MaxWord} {
 		top := withCell(twoLie(), 7, v)
 		wantStack(t,
-			stackRow{fmt.Sprint("push 1 of top ", v), top, pushAt(1, 0, 8), top, pushAt(2, v, 8)},
-			stackRow{fmt.Sprint("push 2 of top ", v), top, pushAt(2, v, 8), withCell(top, 9, v), pushAt(3, v, 8)},
-			stackRow{fmt.Sprint("push 3 from ", v), top, pushAt(3, v, 10), twoLie(), ended(2, impl.OK, 7)},
-			stackRow{fmt.Sprint("push 3 to ", v), twoLie(), pushAt(3, 10, v), top, ended(2, impl.OK, 7)},
-			stackRow{fmt.Sprint("push 3, the top is ", v), top, pushAt(3, 10, 8), top, pushAt(1, 10, 8)},
-			stackRow{fmt.Sprint("pop 0 of top ", v), top, popAt(0), top, popAt(1, v)},
-			stackRow{fmt.Sprint("pop 1, below is ", v), withCell(twoLie(), 11, v), popAt(1, 10), withCell(twoLie(), 11, v), popAt(2, 10, v)},
-			stackRow{fmt.Sprint("pop 2 from ", v), top, popAt(2, v, 10), twoLie(), popAt(3, v, 10)},
-			stackRow{fmt.Sprint("pop 2 to ", v), twoLie(), popAt(2, 10, v), top, popAt(3, 10, v)},
-			stackRow{fmt.Sprint("pop 2, the top is ", v), top, popAt(2, 10, 8), top, popAt(0, 10, 8)},
+			plainRow{fmt.Sprint("push 1 of top ", v), top, pushAt(1, 0, 8), top, pushAt(2, v, 8)},
+			plainRow{fmt.Sprint("push 2 of top ", v), top, pushAt(2, v, 8), withCell(top, 9, v), pushAt(3, v, 8)},
+			plainRow{fmt.Sprint("push 3 from ", v), top, pushAt(3, v, 10), twoLie(), ended(2, impl.OK, 7)},
+			plainRow{fmt.Sprint("push 3 to ", v), twoLie(), pushAt(3, 10, v), top, ended(2, impl.OK, 7)},
+			plainRow{fmt.Sprint("push 3, the top is ", v), top, pushAt(3, 10, 8), top, pushAt(1, 10, 8)},
+			plainRow{fmt.Sprint("pop 0 of top ", v), top, popAt(0), top, popAt(1, v)},
+			plainRow{fmt.Sprint("pop 1, below is ", v), withCell(twoLie(), 11, v), popAt(1, 10), withCell(twoLie(), 11, v), popAt(2, 10, v)},
+			plainRow{fmt.Sprint("pop 2 from ", v), top, popAt(2, v, 10), twoLie(), popAt(3, v, 10)},
+			plainRow{fmt.Sprint("pop 2 to ", v), twoLie(), popAt(2, 10, v), top, popAt(3, 10, v)},
+			plainRow{fmt.Sprint("pop 2, the top is ", v), top, popAt(2, 10, 8), top, popAt(0, 10, 8)},
 		)
 	}
 	two := twoLie()
 	wantStack(t,
-		stackRow{"push 3 to none", two, pushAt(3, 10, 0), withCell(two, 7, 0), ended(2, impl.OK, 7)},
-		stackRow{"push 0 goes by no registers", emptyStack(), pushAt(0, -impl.MaxWord, impl.MaxWord, -1), append(emptyStack(), 7, 0), pushAt(1, -impl.MaxWord, 8, -1)},
+		plainRow{"push 3 to none", two, pushAt(3, 10, 0), withCell(two, 7, 0), ended(2, impl.OK, 7)},
+		plainRow{"push 0 goes by no registers", emptyStack(), pushAt(0, -impl.MaxWord, impl.MaxWord, -1), append(emptyStack(), 7, 0), pushAt(1, -impl.MaxWord, 8, -1)},
 	)
 }
 
 func wantNoStackStep(t *testing.T, what string, a impl.Arena, x impl.Thread, want int) {
 	t.Helper()
-	b, y, code := impl.StepStack(a, x)
+	wantNoPlainStep(t, what, impl.StepStack, a, x, want)
+}
+
+func wantNoPlainStep(t *testing.T, what string, step plainStep, a impl.Arena, x impl.Thread, want int) {
+	t.Helper()
+	b, y, code := step(a, x)
 	wantCode(t, what, code, want)
 	wantCells(t, what, b)
 	wantThread(t, what, y, impl.Thread{})
