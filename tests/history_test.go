@@ -66,9 +66,9 @@ func TestOrderOfTwoCalls(t *testing.T) {
 	}
 }
 
-// everySpan has all calls that begin at one of seven steps from first on, and
-// end by the seventh behind it, or are under way. They differ in all else, which
-// is not to matter.
+// everySpan has all calls that begin at one of eight steps from first on, and
+// end by the last of these, or are under way. They differ in all else, which is
+// not to matter.
 func everySpan(first int) []impl.Call {
 	var all []impl.Call
 	for from := first; from <= first+7; from++ {
